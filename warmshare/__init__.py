@@ -1,0 +1,1 @@
+"""Warmshare: heat that is given on, and as little bought as can be."""
