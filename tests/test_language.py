@@ -31,6 +31,16 @@ def nodes():
     return [(path.name, node) for path, source in sources() for node in ast.walk(ast.parse(source))]
 
 
+# Each node with the one it stands in.
+def with_parents():
+    return [(path.name, parent, node) for path, source in sources() for parent in ast.walk(ast.parse(source))
+            for node in ast.iter_child_nodes(parent)]
+
+
+def called(node):
+    return node.func.id if isinstance(node, ast.Call) and isinstance(node.func, ast.Name) else None
+
+
 def of_kind(*kinds):
     return [(name, node) for name, node in nodes() if isinstance(node, kinds)]
 
@@ -110,6 +120,37 @@ class Language(unittest.TestCase):
         for name, node in of_kind(ast.Call):
             if isinstance(node.func, ast.Attribute):
                 self.assertIn(node.func.attr, METHODS + own, name)
+
+    def test_what_is_walked_at_once(self):
+        takers = ("list", "tuple", "dict", "sorted", "sum", "any", "all", "enumerate", "zip")
+        for name, parent, node in with_parents():
+            walked = called(node) in ("zip", "enumerate", "reversed", "range") or isinstance(node, ast.Call) and (
+                isinstance(node.func, ast.Attribute) and node.func.attr in ("items", "keys", "values"))
+            if walked and not isinstance(parent, (ast.For, ast.comprehension)):
+                self.assertTrue(called(parent) in takers and parent.args[0] is node
+                                or called(parent) in ("min", "max") and parent.args == [node], (name, node.lineno))
+
+    def test_sets_are_not_kept(self):
+        for name, parent, node in with_parents():
+            if called(node) == "set":
+                self.assertTrue(called(parent) in ("len", "sorted") and not parent.keywords
+                                or isinstance(parent, ast.Compare), (name, node.lineno))
+
+    def test_is_stands_beside_none_true_and_false_alone(self):
+        for name, node in of_kind(ast.Compare):
+            for sign, right in zip(node.ops, node.comparators):
+                if isinstance(sign, (ast.Is, ast.IsNot)):
+                    self.assertIn(ast.unparse(right), ("None", "True", "False"), (name, node.lineno))
+
+    def test_no_two_files_draw_from_one_another(self):
+        drawn = {path.stem: set() for path, source in sources()}
+        for name, node in of_kind(ast.ImportFrom):
+            drawn[name.removesuffix(".py")].add(node.module.split(".")[1])
+        while drawn:
+            free = [name for name in drawn if not drawn[name] & set(drawn)]
+            self.assertTrue(free, drawn)
+            for name in free:
+                drawn.pop(name)
 
 
 if __name__ == "__main__":

@@ -2,6 +2,7 @@ import copy
 import random
 import unittest
 
+from tests.plain import by_levels
 from tests.samples import some_works
 from warmshare.levels import given_at, lack_above, wanted_at
 from warmshare.works import read
@@ -9,20 +10,6 @@ from warmshare.works import read
 ORDINARY = (10, [(150, 60, 2), (90, 60, 8)], [(20, 125, 3), (25, 100, 4)])
 # The least and the greatest levels there are.
 EDGES = (50, [(200, 0, 10 ** 9), (1, 0, 1), (200, 199, 1)], [(0, 200, 10 ** 9), (0, 1, 1), (199, 200, 1)])
-
-
-# Points 4 and 5 told a second time, step by step.
-def by_levels(works):
-    gap, hots, colds = works
-    given = [0] * 251
-    wanted = [0] * 251
-    for start, goal, rate in hots:
-        for degree in range(goal, start):
-            given[degree] += rate
-    for start, goal, rate in colds:
-        for degree in range(start, goal):
-            wanted[degree + gap] += rate
-    return given, wanted
 
 
 def samples():

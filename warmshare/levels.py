@@ -1,5 +1,8 @@
 """What is given and what is wanted at a level, and what is lacking above it."""
 
+# Levels are from 0 to 249.
+LEVELS = 250
+
 
 def given_at(works, level):
     return rates_at(hot_bands(works), level)
@@ -11,6 +14,10 @@ def wanted_at(works, level):
 
 def lack_above(works, level):
     return heat_above(cold_bands(works), level) - heat_above(hot_bands(works), level)
+
+
+def lacks_above(works):
+    return [lack_above(works, level) for level in range(LEVELS + 1)]
 
 
 # Told in levels, both kinds of streams are alike: a band (low, high, rate)
